@@ -34,12 +34,14 @@ type operation struct {
 	level func(a, b int64) int64
 	// within: is a on the side of b on which the answer lies?
 	within func(a, b impl.Label) bool
+	// Beside the level 1 of another label, a part of the kept level stays, and one of the lost level comes out as 1.
+	kept, lost int64
 }
 
 func operations() []operation {
 	return []operation{
-		{"Join", impl.Join, func(a, b int64) int64 { return max(a, b) }, func(a, b impl.Label) bool { return impl.AtMost(b, a) }},
-		{"Meet", impl.Meet, func(a, b int64) int64 { return min(a, b) }, func(a, b impl.Label) bool { return impl.AtMost(a, b) }},
+		{"Join", impl.Join, func(a, b int64) int64 { return max(a, b) }, func(a, b impl.Label) bool { return impl.AtMost(b, a) }, lv3, star},
+		{"Meet", impl.Meet, func(a, b int64) int64 { return min(a, b) }, func(a, b impl.Label) bool { return impl.AtMost(a, b) }, star, lv3},
 	}
 }
 
@@ -406,23 +408,19 @@ func joined(base int64, labels ...impl.Label) impl.Label {
 	return l
 }
 
-// TestJoinAndMeetAtMaxParts shares out just as many parts as there may be, and one more, in each way. Of the kept level parts stay; of the lost one they come out as the base.
+// TestJoinAndMeetAtMaxParts shares out just as many parts as there may be, and one more, in each way.
 func TestJoinAndMeetAtMaxParts(t *testing.T) {
-	for i, o := range operations() {
-		kept, lost := int64(lv3), int64(star)
-		if i == 1 {
-			kept, lost = lost, kept
-		}
+	for _, o := range operations() {
 		for n := range int64(impl.MaxParts + 1) {
 			for m := range int64(impl.MaxParts + 1) {
-				a, b := apart(lv1, n, kept, 100), apart(lv1, m, kept, 500)
+				a, b := apart(lv1, n, o.kept, 100), apart(lv1, m, o.kept, 500)
 				want, whether := joined(lv1, a, b), true
 				if n+m > 8 {
 					want, whether = impl.Label{}, false
 				}
 				o.check(t, "kept of both", a, b, want, whether)
-				o.check(t, "kept of one, lost of the other", a, apart(lv1, m, lost, 500), a, true)
-				o.check(t, "lost of both", apart(lv1, n, lost, 100), apart(lv1, m, lost, 500), labelOf(lv1), true)
+				o.check(t, "kept of one, lost of the other", a, apart(lv1, m, o.lost, 500), a, true)
+				o.check(t, "lost of both", apart(lv1, n, o.lost, 100), apart(lv1, m, o.lost, 500), labelOf(lv1), true)
 			}
 		}
 	}
@@ -430,16 +428,12 @@ func TestJoinAndMeetAtMaxParts(t *testing.T) {
 
 // TestJoinAndMeetOfMoreHandlesThanParts has sixteen handles of both; as many as are lost of the second are not counted.
 func TestJoinAndMeetOfMoreHandlesThanParts(t *testing.T) {
-	for i, o := range operations() {
-		kept, lost := int64(lv3), int64(star)
-		if i == 1 {
-			kept, lost = lost, kept
-		}
+	for _, o := range operations() {
 		for n := range int64(impl.MaxParts + 1) {
 			for m := range int64(impl.MaxParts + 1) {
-				a := joined(lv1, apart(lv1, n, kept, 100), apart(lv1, 8-n, lost, 200))
-				b := joined(lv1, apart(lv1, 8-m, lost, 300), apart(lv1, m, kept, 400))
-				want, whether := joined(lv1, apart(lv1, n, kept, 100), apart(lv1, m, kept, 400)), true
+				a := joined(lv1, apart(lv1, n, o.kept, 100), apart(lv1, 8-n, o.lost, 200))
+				b := joined(lv1, apart(lv1, 8-m, o.lost, 300), apart(lv1, m, o.kept, 400))
+				want, whether := joined(lv1, apart(lv1, n, o.kept, 100), apart(lv1, m, o.kept, 400)), true
 				if n+m > 8 {
 					want, whether = impl.Label{}, false
 				}
