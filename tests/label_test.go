@@ -1,6 +1,7 @@
 package tests
 
 import (
+	"maps"
 	"math"
 	"slices"
 	"testing"
@@ -97,6 +98,15 @@ func wrongLabels() map[string]impl.Label {
 	}
 	wrong["a part for every handle"] = many
 	return wrong
+}
+
+// anyLabels are the right ones and the wrong ones, always in the same order.
+func anyLabels() []impl.Label {
+	all, wrong := rightLabels(), wrongLabels()
+	for _, name := range slices.Sorted(maps.Keys(wrong)) {
+		all = append(all, wrong[name])
+	}
+	return all
 }
 
 var handlesOutside = []int64{-1, -2, -1000, math.MinInt32, math.MinInt64, 1000, 1001, 1 << 32, 1<<32 + 5, math.MaxInt64}
@@ -433,11 +443,7 @@ func TestHandlesOfWhatIsNotRight(t *testing.T) {
 
 // TestArgumentsOfLabelsStay calls everything with spare room behind the parts, and holds that room against a copy.
 func TestArgumentsOfLabelsStay(t *testing.T) {
-	all := rightLabels()
-	for _, l := range wrongLabels() {
-		all = append(all, l)
-	}
-	for _, l := range all {
+	for _, l := range anyLabels() {
 		held, room := heldLabel(l)
 		copied := slices.Clone(room)
 		impl.LabelOk(held)
